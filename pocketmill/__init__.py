@@ -1,0 +1,1 @@
+"""Pocketmill: letters sorted pass by pass."""
