@@ -61,8 +61,11 @@ def end_row(mill, letters, plan):
     return trays(mill, letters, plan)[-1]
 
 
+def rank_of(letters, letter):
+    return letter + len(letters) * letters[letter][1]
+
+
 def place_of(mill, letters, plan, letter):
     look_at_plan(mill, letters, plan)
     late = letters[letter][1]
-    code = word_code(mill, late, plan[letter])
-    return (code, face(mill, late, plan[letter]) * (letter + len(letters) * late))
+    return (word_code(mill, late, plan[letter]), face(mill, late, plan[letter]) * rank_of(letters, letter))

@@ -2,16 +2,12 @@ import copy
 import unittest
 from itertools import product
 
-from helper import MILLS, mill_of, piles, queues, refuses, words_of
+from helper import MILLS, mill_of, numbered, piles, queues, refuses, words_of
 from pocketmill.errors import BadLetters, BadPlan
 from pocketmill.mills import Mill, face, word_code
 from pocketmill.trays import end_row, look_at_letters, look_at_plan, place_of, trays
 
 ASKED_WITH_A_PLAN = (look_at_plan, trays, end_row, lambda mill, letters, plan: place_of(mill, letters, plan, 0))
-
-
-def numbered(count):
-    return [(1, 0)] * count
 
 
 class Letters(unittest.TestCase):
