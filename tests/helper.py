@@ -1,5 +1,6 @@
 """What several tests use: sample mills, letters and wishes, and checks for refusals and for lists that are one."""
 
+import copy
 from itertools import permutations, product
 
 from pocketmill.mills import Mill
@@ -60,6 +61,35 @@ def lists_within(told):
 def all_lists_are_own(case, *told):
     lists = lists_within(list(told))
     case.assertEqual(len({id(part) for part in lists}), len(lists))
+
+
+class OwnListsTests:
+    """Tests of 0.2 and 0.5 for a case with told(), what functions tell, and handed(), the lists they are handed."""
+
+    def test_0_2_what_is_handed_in_stays_as_it_was(self):
+        before = copy.deepcopy(self.handed())
+        self.told()
+        self.assertEqual(self.handed(), before)
+
+    def test_0_2_changing_what_was_handed_in_changes_nothing_told(self):
+        told = self.told()
+        before = copy.deepcopy(told)
+        for handed in lists_within(self.handed()):
+            handed.clear()
+        self.assertEqual(told, before)
+
+    def test_0_2_changing_what_was_told_changes_nothing(self):
+        before = copy.deepcopy(self.told())
+        for told in lists_within(self.told()):
+            told.reverse()
+            told.append(99)
+        self.assertEqual(self.told(), before)
+
+    def test_0_2_no_two_lists_are_one(self):
+        all_lists_are_own(self, self.told(), self.told(), *self.handed())
+
+    def test_0_5_the_same_question_has_the_same_answer(self):
+        self.assertEqual(self.told(), self.told())
 
 
 # With and without passes, single pockets, queues, piles, both, and a mill of 1000 codes.

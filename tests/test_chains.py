@@ -1,7 +1,7 @@
 import copy
 import unittest
 
-from helper import all_lists_are_own, lists_within, mill_of, numbered, refuses
+from helper import OwnListsTests, mill_of, numbered, refuses
 from pocketmill.chains import bars, chain_places, does
 from pocketmill.errors import BadLetters, BadPlan
 from pocketmill.mills import Mill
@@ -172,7 +172,7 @@ class Refusals(Sample):
         refuses(self, BadLetters, chain_places, Mill([]), [(1, 1)], [])
 
 
-class OwnLists(Sample):
+class OwnLists(OwnListsTests, Sample):
     def setUp(self):
         Sample.setUp(self)
         self.chain = [1, 0, 2]
@@ -180,39 +180,20 @@ class OwnLists(Sample):
         self.plan = [(1, 0), (0, 0), (0,), ()]
         self.keeping = Wish(self.first_four, [("row", [2, 0, 1, 3])])
 
+    def handed(self):
+        return [self.letters, self.chain, self.first_four, self.plan]
+
     def told(self):
         return [chain_places(self.mill, self.letters, self.chain), bars(self.mill, self.letters, self.wish, self.chain),
-                does(self.mill, self.first_four, self.keeping, self.plan)]
+                does(self.mill, self.first_four, self.keeping, self.plan), chain_places(self.mill, self.letters, [])]
 
-    def test_0_2_what_is_handed_in_stays_as_it_was(self):
-        handed = (self.letters, self.chain, self.first_four, self.plan, self.wish.groups, self.keeping.groups)
-        before, passes = copy.deepcopy(handed), self.mill.passes
-        self.assertEqual(self.told(), [[(1, -1), (1, 0), None], True, True])
+    def test_0_2_the_mill_and_the_wish_stay_as_they_were(self):
+        before = copy.deepcopy((self.mill.passes, self.wish.groups, self.keeping.groups, self.handed()))
+        self.assertEqual(self.told(), [[(1, -1), (1, 0), None], True, True, []])
         refuses(self, BadPlan, does, self.mill, self.letters, self.wish, self.plan)
         refuses(self, BadLetters, bars, Mill([]), self.letters, self.wish, self.chain)
-        self.assertEqual((handed, self.mill.passes), (before, passes))
+        self.assertEqual((self.mill.passes, self.wish.groups, self.keeping.groups, self.handed()), before)
         self.assertEqual(self.wish.levels(), [[1], [0], [2, 3], [4]])
-
-    def test_0_2_changing_what_was_handed_in_changes_nothing_told(self):
-        told = self.told()
-        before = copy.deepcopy(told)
-        for handed in (self.letters, self.chain, self.first_four, self.plan):
-            handed.clear()
-        self.assertEqual(told, before)
-
-    def test_0_2_changing_what_was_told_changes_nothing(self):
-        before = copy.deepcopy(self.told())
-        for told in lists_within(self.told()):
-            told.clear()
-        self.assertEqual(self.told(), before)
-
-    def test_0_2_no_two_lists_are_one(self):
-        empty = []
-        all_lists_are_own(self, self.told(), self.told(), self.chain, self.letters, empty,
-                          chain_places(self.mill, self.letters, empty), chain_places(self.mill, self.letters, empty))
-
-    def test_0_5_the_same_question_has_the_same_answer(self):
-        self.assertEqual(self.told(), self.told())
 
 
 if __name__ == "__main__":

@@ -2,7 +2,7 @@ import copy
 import unittest
 from itertools import permutations, product
 
-from helper import MILLS, all_lists_are_own, levels_in, lists_within, mill_of, numbered, refuses, words_of
+from helper import MILLS, OwnListsTests, all_lists_are_own, levels_in, mill_of, numbered, refuses, words_of
 from pocketmill.chains import bars, does
 from pocketmill.errors import BadLetters
 from pocketmill.least import least_plan, next_place, open_places
@@ -239,43 +239,31 @@ class AllPlans(unittest.TestCase):
         self.looks_at(Mill([[("pile", 1), ("queue", 2), ("pile", 2)]]), [(1, 0), (2, 0), (1, 1), (1, 0)])
 
 
-class OwnLists(Sample):
+class OwnLists(OwnListsTests, Sample):
     def setUp(self):
         Sample.setUp(self)
         self.doing = Wish(self.letters, [("row", [2, 0, 1, 3])])
         self.barred = Wish(self.letters, [("row", [1, 0, 2, 3])])
 
+    def handed(self):
+        return [self.letters]
+
     def told(self):
         return (open_places(self.mill, self.letters, 0), next_place(self.mill, self.letters, 0, (1, 0)),
-                least_plan(self.mill, self.letters, self.doing), least_plan(self.mill, self.letters, self.barred))
+                least_plan(self.mill, self.letters, self.doing), least_plan(self.mill, self.letters, self.barred),
+                least_plan(Mill([]), [], Wish([], [])))
 
-    def test_0_2_what_is_handed_in_stays_as_it_was(self):
-        passes, letters = self.mill.passes, copy.deepcopy(self.letters)
+    def test_0_2_the_mill_and_the_wishes_stay_as_they_were(self):
+        passes = self.mill.passes
         wishes = copy.deepcopy((self.doing.groups, self.doing.levels(), self.barred.groups, self.barred.levels()))
         self.told()
         refuses(self, BadLetters, least_plan, Mill([]), self.letters, self.doing)
-        self.assertEqual((self.mill.passes, self.letters), (passes, letters))
+        self.assertEqual(self.mill.passes, passes)
         self.assertEqual((self.doing.groups, self.doing.levels(), self.barred.groups, self.barred.levels()), wishes)
 
-    def test_0_2_changing_what_was_handed_in_changes_nothing_told(self):
-        told = self.told()
-        before = copy.deepcopy(told)
-        self.letters.clear()
-        self.assertEqual(told, before)
-
-    def test_0_2_changing_what_was_told_changes_nothing(self):
-        before = copy.deepcopy(self.told())
-        for told in lists_within(self.told()):
-            told.reverse()
-            told.append(99)
-        self.assertEqual(self.told(), before)
-
-    def test_0_2_no_two_lists_are_one(self):
-        all_lists_are_own(self, self.told(), self.told(), self.letters, self.doing.levels(), self.barred.levels())
-        all_lists_are_own(self, least_plan(Mill([]), [], Wish([], [])), least_plan(Mill([]), [], Wish([], [])))
-
-    def test_0_5_the_same_question_has_the_same_answer(self):
-        self.assertEqual(self.told(), self.told())
+    def test_0_2_no_list_of_a_wish_is_told(self):
+        all_lists_are_own(self, self.told(), self.doing.level_letters, self.doing.groups, self.barred.level_letters,
+                          self.barred.groups)
 
 
 def fitting_words(mill, letter):

@@ -21,7 +21,8 @@ class Letters(unittest.TestCase):
             refuses(self, BadLetters, function, self.mill, letters, plan)
 
     def test_2_1_letters_that_a_mill_takes(self):
-        for letters in ([], [(1, 0)], [(9, 2), (1, 1), (5, 0)], [(size, late) for size in range(1, 9) for late in range(3)]):
+        spread_out = [(size, late) for size in range(1, 9) for late in range(3)]
+        for letters in ([], [(1, 0)], [(9, 2), (1, 1), (5, 0)], spread_out):
             self.assertIsNone(look_at_letters(self.mill, letters))
         self.assertIsNone(look_at_letters(Mill([]), [(3, 0)]))
 
