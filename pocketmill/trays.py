@@ -19,13 +19,16 @@ def look_at_letters(mill, letters):
         raise BadLetters("a letter has a size from 1 to 9 and joins at one of the passes or behind them")
 
 
+def is_word_for(mill, letter, word):
+    return is_word(mill, letter[1], word) and fits(mill, letter[1], word, letter[0])
+
+
 def look_at_plan(mill, letters, plan):
     look_at_letters(mill, letters)
     if not isinstance(plan, (list, tuple)) or len(plan) != len(letters):
         raise BadPlan("a plan is a list with one word for each letter")
-    for letter, word in zip(letters, plan):
-        if not is_word(mill, letter[1], word) or not fits(mill, letter[1], word, letter[0]):
-            raise BadPlan("a word of the plan is none of its letter, or does not fit it")
+    if not all([is_word_for(mill, letter, word) for letter, word in zip(letters, plan)]):
+        raise BadPlan("a word of the plan is none of its letter, or does not fit it")
 
 
 def joining(letters, late):

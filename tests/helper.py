@@ -3,13 +3,23 @@
 import copy
 from itertools import permutations, product
 
-from pocketmill.mills import Mill
+from pocketmill.errors import BadText
+from pocketmill.mills import Mill, fits
+from pocketmill.wishes import Wish
 
 
 def refuses(case, wanted, function, *handed):
     with case.assertRaises(wanted) as caught:
         function(*handed)
     case.assertIs(type(caught.exception), wanted)
+
+
+def refused_row(case, function, *handed):
+    """The number of the row that BadText keeps."""
+    with case.assertRaises(BadText) as caught:
+        function(*handed)
+    case.assertIs(type(caught.exception), BadText)
+    return caught.exception.row
 
 
 def queues(many, width=9):
@@ -47,6 +57,15 @@ def levels_in(count):
                     levels[-1].append(letter)
             found.add(tuple(tuple(sorted(level)) for level in levels))
     return sorted(found)
+
+
+def wish_of(letters, levels):
+    return Wish(letters, [("any", list(level)) for level in levels])
+
+
+def all_plans(mill, letters):
+    words = [[word for word in words_of(mill, late) if fits(mill, late, word, size)] for size, late in letters]
+    return [list(plan) for plan in product(*words)]
 
 
 def lists_within(told):
@@ -97,3 +116,19 @@ MILLS = [
     "", "q", "p", "qq", "pp", "qp", "pq", "p p", "p q p", "qp pq", "pq qp pp", "qqq pp",
     "pqp q qp", "q p q p q p", "pppppp qqqqqq", "pqpqp qqppq pppqq qp pp pq",
 ]
+
+# Small enough to walk all plans of a few letters; some have pockets that are narrow or take nothing.
+SMALL_MILLS = [
+    Mill([]), mill_of("q"), mill_of("p"), mill_of("qq q"), mill_of("p p"), mill_of("qp q"), mill_of("q pq"),
+    Mill([[("queue", 9)], [("pile", 1), ("queue", 2)]]), Mill([[("queue", 1), ("pile", 2)], [("queue", 1)]]),
+    Mill([[("pile", 0)], [("queue", 9), ("queue", 9)]]), Mill([[("queue", 9), ("pile", 9)], [("queue", 0)]]),
+]
+
+
+def small_cases():
+    """Mills with letters and wishes of which all plans can be walked."""
+    for mill in SMALL_MILLS:
+        for letters in ([], [(1, 0)], [(2, 0), (1, 0)], [(1, 1), (2, 0), (1, 0)], [(1, 0), (2, 2), (1, 1)]):
+            if max([late for size, late in letters], default=0) <= mill.many():
+                for levels in levels_in(len(letters)):
+                    yield mill, letters, wish_of(letters, levels)

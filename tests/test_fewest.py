@@ -2,19 +2,14 @@ import copy
 import unittest
 from itertools import product
 
-from helper import OwnListsTests, levels_in, mill_of, numbered, piles, queues, refuses, words_of
+from helper import (
+    OwnListsTests, all_plans, levels_in, mill_of, numbered, piles, queues, refuses, small_cases, wish_of)
 from pocketmill.chains import bars, does
 from pocketmill.errors import BadCount, BadLetters
 from pocketmill.fewest import codes_needed, fewest, fewest_holds, first_passes
 from pocketmill.least import least_plan
-from pocketmill.mills import Mill, fits
+from pocketmill.mills import Mill
 from pocketmill.wishes import Wish
-
-SMALL = [
-    Mill([]), mill_of("q"), mill_of("p"), mill_of("qq q"), mill_of("p p"), mill_of("qp q"), mill_of("q pq"),
-    Mill([[("queue", 9)], [("pile", 1), ("queue", 2)]]), Mill([[("queue", 1), ("pile", 2)], [("queue", 1)]]),
-    Mill([[("pile", 0)], [("queue", 9), ("queue", 9)]]), Mill([[("queue", 9), ("pile", 9)], [("queue", 0)]]),
-]
 
 
 def falling(many):
@@ -23,24 +18,6 @@ def falling(many):
 
 def rising(many):
     return Wish(numbered(many), [("row", list(range(many)))])
-
-
-def wish_of(letters, levels):
-    return Wish(letters, [("any", list(level)) for level in levels])
-
-
-def all_plans(mill, letters):
-    words = [[word for word in words_of(mill, late) if fits(mill, late, word, size)] for size, late in letters]
-    return [list(plan) for plan in product(*words)]
-
-
-def small_cases():
-    """Mills with letters and wishes of which all plans can be walked."""
-    for mill in SMALL:
-        for letters in ([], [(1, 0)], [(2, 0), (1, 0)], [(1, 1), (2, 0), (1, 0)], [(1, 0), (2, 2), (1, 1)]):
-            if max([late for size, late in letters], default=0) <= mill.many():
-                for levels in levels_in(len(letters)):
-                    yield mill, letters, wish_of(letters, levels)
 
 
 class FirstPasses(unittest.TestCase):

@@ -73,6 +73,34 @@ class Form(unittest.TestCase):
                 self.assertFalse(isinstance(part, ast.Constant) and isinstance(part.value, (float, bytes)))
                 self.assertFalse(isinstance(part, ast.Constant) and isinstance(part.value, str) and "%" in part.value)
 
+    def test_l7_l23_texts_with_plain_names_and_walks_on_the_spot(self):
+        for path in FILES:
+            for part in parts_of(path, ast.FormattedValue):
+                self.assertIsInstance(part.value, ast.Name, path.name)
+            for part in parts_of(path, (ast.Assign, ast.Return)):
+                called = getattr(getattr(part.value, "func", None), "id", "")
+                self.assertNotIn(called, ("zip", "enumerate", "reversed", "range"), path.name)
+            for part in parts_of(path, ast.ListComp):
+                self.assertEqual(len([inner for inner in ast.walk(part) if isinstance(inner, ast.ListComp)]), 1)
+
+    def test_l15_names_that_stand_for_one_thing(self):
+        for path in FILES:
+            taken = {name.name for part in parts_of(path, ast.ImportFrom) for name in part.names}
+            taken |= {part.name for part in parts_of(path, ast.ClassDef)}
+            bound = {part.arg for part in parts_of(path, ast.arg)}
+            bound |= {part.id for part in parts_of(path, ast.Name) if isinstance(part.ctx, ast.Store)}
+            self.assertEqual(taken & bound, set(), path.name)
+
+    def test_l18_no_name_is_a_method_and_a_value(self):
+        methods, values = set(), set()
+        for path in FILES:
+            for part in parts_of(path, ast.ClassDef):
+                methods |= {inner.name for inner in part.body if isinstance(inner, ast.FunctionDef)}
+            values |= {part.attr for part in parts_of(path, ast.Attribute) if isinstance(part.ctx, ast.Store)}
+        self.assertIn("one_order", methods)
+        self.assertIn("passes", values)
+        self.assertEqual(methods & values, set())
+
     def test_l8_l12_names(self):
         for path in FILES:
             for part in parts_of(path, (ast.Name, ast.arg)):
